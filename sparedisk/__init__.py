@@ -1,0 +1,1 @@
+"""A disk that may lose its power at any byte."""
