@@ -1,5 +1,6 @@
 """The calls on one disk, written as a list of whole numbers."""
 
+from sparedisk.checksum import sum_of
 from sparedisk.drive import COMMIT, FLUSH, MEND, SETTLE, Drive
 
 
@@ -74,8 +75,54 @@ def call_cut_in(drive, reader):
     return drive.cut_in(after, drive.operation(kind, homes, data), row)
 
 
+def call_arrive(drive, reader):
+    """arrive: row."""
+    return drive.arrive(reader.take_row())
+
+
+def call_told(drive, reader):
+    """told."""
+    return drive.told()
+
+
+def call_block(drive, reader):
+    """block: b."""
+    return drive.block(reader.take())
+
+
+def call_look(drive, reader):
+    """look."""
+    return drive.look()
+
+
+def call_save(drive, reader):
+    """save."""
+    return drive.save()
+
+
+def call_load(drive, reader):
+    """load: medium."""
+    return drive.load(reader.take_row())
+
+
+def call_plan(drive, reader):
+    """plan: kind, homes, blocks."""
+    kind = reader.take()
+    homes = reader.take_row()
+    data = reader.take_row()
+    return drive.plan(kind, homes, data)
+
+
+def call_sum(drive, reader):
+    """sum: bytes."""
+    return [sum_of(reader.take_row())]
+
+
 # A call's number is its place in this row.
-CALLS = (call_make, call_read, call_commit, call_flush, call_settle, call_mend, call_cut, call_cut_in)
+CALLS = (
+    call_make, call_read, call_commit, call_flush, call_settle, call_mend, call_cut, call_cut_in,
+    call_arrive, call_told, call_block, call_look, call_save, call_load, call_plan, call_sum,
+)
 
 
 def answers(calls):

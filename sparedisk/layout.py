@@ -44,9 +44,14 @@ class Transaction:
         self.blocks = blocks
 
 
+def block_count_is_allowed(block_count):
+    """Whether a disk may have so many blocks."""
+    return block_count >= 8 and block_count <= 4096
+
+
 def shape_is_allowed(block_count, place_count):
     """Whether a disk may have so many blocks, so many of them the journal's."""
-    if block_count < 8 or block_count > 4096:
+    if not block_count_is_allowed(block_count):
         return False
     return place_count >= 4 and place_count <= block_count - 3
 
@@ -56,6 +61,11 @@ def homes_are_allowed(homes, home_count):
     if len(homes) < 1 or len(homes) > MOST_HOMES:
         return False
     return len(set(homes)) == len(homes) and max(homes) < home_count
+
+
+def split_blocks(data):
+    """The whole blocks that lie in data one behind another."""
+    return [data[at:at + BLOCK_SIZE] for at in range(0, len(data), BLOCK_SIZE)]
 
 
 def letters(word):

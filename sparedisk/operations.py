@@ -1,7 +1,8 @@
 """What the running disk's operations answer and do, told ahead of doing it."""
 
 from sparedisk.finding import found_on
-from sparedisk.layout import BLOCK_SIZE, Head, Transaction, head_block, homes_are_allowed, transaction_blocks
+from sparedisk.layout import BLOCK_SIZE, Head, Transaction, head_block, homes_are_allowed, split_blocks
+from sparedisk.layout import transaction_blocks
 
 
 class Known:
@@ -57,8 +58,7 @@ def commit_operation(known, homes, data):
         return refused(-2)
     if len(homes) + 1 > shape.place_count:
         return refused(-5)
-    blocks = [data[BLOCK_SIZE * k:BLOCK_SIZE * (k + 1)] for k in range(len(homes))]
-    transaction = Transaction(homes, blocks)
+    transaction = Transaction(homes, split_blocks(data))
     actions = []
     ahead = known
     if known.taken + len(homes) + 1 > shape.place_count:

@@ -1,12 +1,36 @@
 """Calls written as numbers, their answers taken apart, and blocks written by other means than the program's."""
 
 import struct
+import unittest
 
 from sparedisk.disk import answers
 
 COMMIT, FLUSH, SETTLE, MEND = range(4)
 ZEROS = [0] * 512
 MOST = 2147483647
+
+
+class Case(unittest.TestCase):
+    """Tells of two lists where they first differ: unittest's own telling of long ones takes minutes."""
+
+    def __init__(self, *names):
+        super().__init__(*names)
+        self.addTypeEqualityFunc(list, self.check_same)
+        self.addTypeEqualityFunc(tuple, self.check_same)
+
+    def check_same(self, first, second, msg=None):
+        if first == second:
+            return
+        path = []
+        while isinstance(first, (list, tuple)) and type(first) is type(second):
+            at = 0
+            while at < min(len(first), len(second)) and first[at] == second[at]:
+                at += 1
+            path.append(at)
+            if at == min(len(first), len(second)):
+                break
+            first, second = first[at], second[at]
+        self.fail(self._formatMessage(msg, f"differ at {path}: {str(first)[:200]} and {str(second)[:200]}"))
 
 
 def block(seed):
@@ -52,6 +76,39 @@ def cut(arrived=()):
 
 def cut_in(after, kind, arrived=(), homes=(), blocks=()):
     return [7, after, kind] + row(arrived) + row(homes) + row(joined(blocks))
+
+
+def arrive(arrived=()):
+    return [8] + row(arrived)
+
+
+def told():
+    return [9]
+
+
+def on_medium(b):
+    """The call block: what the medium has there."""
+    return [10, b]
+
+
+def look():
+    return [11]
+
+
+def save():
+    return [12]
+
+
+def load(blocks):
+    return [13] + row(joined(blocks))
+
+
+def plan(kind, homes=(), blocks=()):
+    return [14, kind] + row(homes) + row(joined(blocks))
+
+
+def sum_call(data):
+    return [15] + row(data)
 
 
 def run(*calls):

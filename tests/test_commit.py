@@ -3,15 +3,15 @@
 import unittest
 
 from sparedisk.drive import COMMIT, Drive
-from tests.lines import ZEROS, block, commit, cut, first_numbers, flush, joined, make, mend, read, run, settle, whole
-from tests.lines import written_head, written_transaction
+from tests.lines import Case, ZEROS, block, commit, cut, first_numbers, flush, joined, make, mend, read, run, settle
+from tests.lines import whole, written_head, written_transaction
 
 
 def blocks(count):
     return [block(k) for k in range(count)]
 
 
-class CommitTest(unittest.TestCase):
+class CommitTest(Case):
     def test_numbers_stand_in_a_row(self):
         one = commit([0], [block(1)])
         self.assertEqual(first_numbers(make(12, 6), one, one, flush(), one, settle(), one, one, one, one),

@@ -4,11 +4,11 @@ import unittest
 
 from sparedisk.drive import Drive
 from sparedisk.medium import Medium
-from tests.lines import COMMIT, FLUSH, MEND, MOST, SETTLE, ZEROS
-from tests.lines import block, commit, cut, cut_in, first_numbers, flush, make, mend, read, run, settle, whole
+from tests.lines import Case, COMMIT, FLUSH, MEND, MOST, SETTLE, ZEROS, block, commit, cut, cut_in, first_numbers, flush
+from tests.lines import make, mend, read, run, settle, whole
 
 
-class CutTest(unittest.TestCase):
+class CutTest(Case):
     def check(self, arrived, count):
         """One home's commit and a cut: the writes are 0, what the transaction is, and 1, the block."""
         got = run(make(12, 5), commit([2], [block(1)]), cut(arrived), mend(), read(2))
@@ -105,7 +105,7 @@ class CutTest(unittest.TestCase):
         self.assertEqual(got[3:], [[0], [0], [0] + block(1)])
 
 
-class CutInTest(unittest.TestCase):
+class CutInTest(Case):
     def check(self, before, cutting, count, reads, number):
         """What mending answers behind these calls, what homes 0 and on read as, and the next number."""
         calls = list(before) + [cutting, read(0), mend()] + [read(k) for k in range(len(reads))]

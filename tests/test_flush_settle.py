@@ -3,11 +3,11 @@
 import unittest
 
 from sparedisk.drive import COMMIT, SETTLE, Drive
-from tests.lines import ZEROS, block, commit, cut, first_numbers, flush, joined, make, mend, read, run, settle, whole
-from tests.lines import written_head, written_transaction
+from tests.lines import Case, ZEROS, block, commit, cut, first_numbers, flush, joined, make, mend, read, run, settle
+from tests.lines import whole, written_head, written_transaction
 
 
-class FlushTest(unittest.TestCase):
+class FlushTest(Case):
     def test_it_answers_0(self):
         self.assertEqual(first_numbers(make(8, 4), flush(), commit([0], [block(1)]), flush(), flush()),
                          [0, 0, 1, 0, 0])
@@ -31,7 +31,7 @@ class FlushTest(unittest.TestCase):
         self.assertEqual(got[-1], 1)
 
 
-class SettleTest(unittest.TestCase):
+class SettleTest(Case):
     def test_it_answers_0(self):
         self.assertEqual(first_numbers(make(8, 4), settle(), commit([0], [block(1)]), settle(), settle()),
                          [0, 0, 1, 0, 0])

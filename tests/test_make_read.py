@@ -3,12 +3,13 @@
 import unittest
 
 from sparedisk.drive import Drive
-from tests.lines import ZEROS, block, commit, cut, first_numbers, flush, make, mend, read, run, settle, written_head
+from tests.lines import Case, ZEROS, block, commit, cut, first_numbers, flush, make, mend, read, run, settle
+from tests.lines import written_head
 
 LEAST = -2147483648
 
 
-class MakeTest(unittest.TestCase):
+class MakeTest(Case):
     def test_sizes_that_are_allowed(self):
         for n, j in [(8, 4), (8, 5), (9, 6), (12, 5), (256, 4), (256, 253)]:
             self.assertEqual(run(make(n, j)), [[0]], (n, j))
@@ -60,7 +61,7 @@ class MakeTest(unittest.TestCase):
         self.assertEqual(got[4:], [[-2], [-6], [1], [0] + block(1)])
 
 
-class ReadTest(unittest.TestCase):
+class ReadTest(Case):
     def test_a_home_never_written(self):
         self.assertEqual(run(make(8, 4), read(0), read(1))[1:], [[0] + ZEROS] * 2)
 

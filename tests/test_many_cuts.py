@@ -3,8 +3,8 @@
 import random
 import unittest
 
-from tests.lines import COMMIT, FLUSH, MEND, SETTLE, ZEROS, block, commit, cut, cut_in, flush, make, mend, read, run
-from tests.lines import settle
+from tests.lines import Case, COMMIT, FLUSH, MEND, SETTLE, ZEROS, block, commit, cut, cut_in, flush, make, mend, read
+from tests.lines import run, settle
 
 
 class Story:
@@ -59,7 +59,7 @@ class Story:
         self.calls += [read(k) for k in range(self.h)]
 
 
-class ManyCutsTest(unittest.TestCase):
+class ManyCutsTest(Case):
     def test_what_is_read_is_what_some_first_transactions_made(self):
         for seed in range(150):
             story = Story(seed)

@@ -4,11 +4,11 @@ import unittest
 
 from sparedisk.drive import COMMIT, FLUSH, MEND, SETTLE, Drive
 from sparedisk.finding import counting_head, found_on
-from tests.lines import ZEROS, block, commit, crc, cut, first_numbers, flush, joined, make, mend, read, run, settle
-from tests.lines import whole, written_head, written_transaction
+from tests.lines import Case, ZEROS, block, commit, crc, cut, first_numbers, flush, joined, make, mend, read, run
+from tests.lines import settle, whole, written_head, written_transaction
 
 
-class MendTest(unittest.TestCase):
+class MendTest(Case):
     def test_refusals(self):
         self.assertEqual(first_numbers(mend()), [-6])
         self.assertEqual(first_numbers(make(8, 4), mend(), cut(), mend(), mend()), [0, -3, 0, 0, -3])
@@ -98,7 +98,7 @@ def with_one_head(n, head):
     return medium
 
 
-class HeadTest(unittest.TestCase):
+class HeadTest(Case):
     def test_right_heads(self):
         for head in [(0, 12, 5, 0, 0), (1, 12, 4, 1, 3), (2 ** 60 - 1, 12, 9, 2 ** 60 - 1, 8), (2, 8, 5, 300, 4)]:
             found = counting_head(with_one_head(head[1], written_head(*head)))
@@ -174,7 +174,7 @@ def its_own_last_block(s, homes, blocks):
     return written_transaction(s, homes, blocks + [last_with(tail)])
 
 
-class TransactionTest(unittest.TestCase):
+class TransactionTest(Case):
     def count(self, j, place, pieces):
         return len(found_on(medium_with(j, place, pieces)).transactions)
 
